@@ -1,0 +1,1 @@
+"""Lotbook: a company's shares, lot by lot."""
